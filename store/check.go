@@ -4,6 +4,7 @@ import (
 	"slices"
 
 	"glasshouse/api"
+	"glasshouse/ground"
 )
 
 // Check answers what is wrong with a store. What is wrong with a node by itself is told ahead of what is wrong with how nodes stand.
@@ -16,7 +17,7 @@ func Check(s api.Store) api.Errno {
 			return e
 		}
 	}
-	if !kidsFit(s.Nodes) || !hostsFit(s.Nodes) || someUnderItself(s.Nodes) {
+	if !kidsFit(s.Nodes) || !hostsFit(s.Nodes) || someUnderItself(s) {
 		return api.ErrTree
 	}
 	return api.OK
@@ -38,13 +39,13 @@ func checkNode(n api.Node, places int) api.Errno {
 
 // inRange tells whether a node's numbers are ones that may be.
 func inRange(n api.Node) bool {
-	return within(n.Uses, 0, api.MaxUses) && within(n.Tag, 0, api.MaxTag) && within(n.Mark, -api.MaxValue, api.MaxValue)
+	return ground.Within(n.Uses, 0, api.MaxUses) && ground.Within(n.Tag, 0, api.MaxTag) && ground.Within(n.Mark, -api.MaxValue, api.MaxValue)
 }
 
 // namesPlaces tells whether all that a node names is a place, or none.
 func namesPlaces(n api.Node, places int) bool {
 	wrong := func(place int) bool {
-		return !within(place, none, places-1)
+		return !ground.Within(place, ground.None, places-1)
 	}
 	return !wrong(n.Parent) && !wrong(n.Host) && !slices.ContainsFunc(n.Kids, wrong)
 }
@@ -57,10 +58,10 @@ func inForm(n api.Node) bool {
 	if n.Uses == 0 {
 		return false
 	}
-	if n.Host == none {
+	if n.Host == ground.None {
 		return !n.Closed
 	}
-	return n.Parent == none
+	return n.Parent == ground.None
 }
 
 // kidsFit tells whether each node that has a Parent stands in its Kids once, and no other one stands in any.
@@ -68,14 +69,14 @@ func kidsFit(nodes []api.Node) bool {
 	stands := make([]int, len(nodes))
 	for place, n := range nodes {
 		for _, kid := range n.Kids {
-			if kid == none || !nodes[kid].Used || nodes[kid].Parent != place {
+			if kid == ground.None || !nodes[kid].Used || nodes[kid].Parent != place {
 				return false
 			}
 			stands[kid]++
 		}
 	}
 	for place, n := range nodes {
-		if stands[place] > 1 || n.Parent != none && stands[place] == 0 {
+		if stands[place] > 1 || n.Parent != ground.None && stands[place] == 0 {
 			return false
 		}
 	}
@@ -86,7 +87,7 @@ func kidsFit(nodes []api.Node) bool {
 func hostsFit(nodes []api.Node) bool {
 	roots := make([]int, len(nodes))
 	for _, n := range nodes {
-		if n.Host == none {
+		if n.Host == ground.None {
 			continue
 		}
 		roots[n.Host]++
@@ -98,27 +99,11 @@ func hostsFit(nodes []api.Node) bool {
 }
 
 // someUnderItself tells whether some node stands, at some step, under itself.
-func someUnderItself(nodes []api.Node) bool {
-	for place := range nodes {
-		found := false
-		climb(nodes, place, func(at int) bool {
-			found = at == place
-			return !found
-		})
-		if found {
+func someUnderItself(s api.Store) bool {
+	for place := range s.Nodes {
+		if ground.Under(s, place, place) {
 			return true
 		}
 	}
 	return false
-}
-
-// climb visits what the node at a place stands right under, and so on, as long as visit says so. It takes no more steps than there are places: in a ring there is no last one.
-func climb(nodes []api.Node, place int, visit func(at int) bool) {
-	at := rightUnder(nodes[place])
-	for range nodes {
-		if at == none || !visit(at) {
-			return
-		}
-		at = rightUnder(nodes[at])
-	}
 }

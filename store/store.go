@@ -5,14 +5,12 @@ import (
 	"slices"
 
 	"glasshouse/api"
+	"glasshouse/ground"
 )
-
-// none is the Parent of what is nobody's child, and the Host of what is no root.
-const none = -1
 
 // New answers a store of so many places, none of them in use.
 func New(places int) (api.Store, api.Errno) {
-	if !within(places, 0, api.MaxNodes) {
+	if !ground.Within(places, 0, api.MaxNodes) {
 		return api.Store{}, api.ErrRange
 	}
 	nodes := make([]api.Node, places)
@@ -29,7 +27,7 @@ func Same(a, b api.Store) bool {
 
 // Make puts a node into the first place that can take one, and answers a hand on it.
 func Make(s api.Store, tag int) (api.Store, api.Hand, api.Errno) {
-	if !within(tag, 0, api.MaxTag) {
+	if !ground.Within(tag, 0, api.MaxTag) {
 		return api.Store{}, api.Hand{}, api.ErrRange
 	}
 	// A place whose Uses can't grow any more is left alone for good: an old hand would hold the new node.
@@ -39,7 +37,7 @@ func Make(s api.Store, tag int) (api.Store, api.Hand, api.Errno) {
 	if place < 0 {
 		return api.Store{}, api.Hand{}, api.ErrMany
 	}
-	made := copyStore(s)
+	made := ground.Copy(s)
 	node := &made.Nodes[place]
 	node.Used = true
 	node.Uses++
@@ -49,11 +47,11 @@ func Make(s api.Store, tag int) (api.Store, api.Hand, api.Errno) {
 
 // Holds answers what keeps a hand from holding a node. The store may be any, a wrong one too.
 func Holds(s api.Store, h api.Hand) api.Errno {
-	if !within(h.Place, 0, len(s.Nodes)-1) {
+	if !ground.Within(h.Place, 0, len(s.Nodes)-1) {
 		return api.ErrWho
 	}
 	node := s.Nodes[h.Place]
-	if !within(h.Use, 1, node.Uses) {
+	if !ground.Within(h.Use, 1, node.Uses) {
 		return api.ErrWho
 	}
 	if !node.Used || node.Uses != h.Use {
@@ -67,7 +65,7 @@ func Find(s api.Store, h api.Hand) (api.Node, api.Errno) {
 	if e := Holds(s, h); e != api.OK {
 		return api.Node{}, e
 	}
-	return copyNode(s.Nodes[h.Place]), api.OK
+	return ground.CopyNode(s.Nodes[h.Place]), api.OK
 }
 
 // Free takes the node that a hand holds from its place, if nothing else hangs on it.
@@ -76,10 +74,10 @@ func Free(s api.Store, h api.Hand) (api.Store, api.Errno) {
 	if e != api.OK {
 		return api.Store{}, e
 	}
-	if rightUnder(node) != none || len(node.Kids) > 0 || isHost(s, h.Place) {
+	if ground.RightUnder(node) != ground.None || len(node.Kids) > 0 || isHost(s, h.Place) {
 		return api.Store{}, api.ErrTree
 	}
-	freed := copyStore(s)
+	freed := ground.Copy(s)
 	// The Uses stay, so that no hand on this node holds the next one.
 	freed.Nodes[h.Place] = unused(node.Uses)
 	return freed, api.OK
@@ -87,15 +85,7 @@ func Free(s api.Store, h api.Hand) (api.Store, api.Errno) {
 
 // unused is a place that nothing is in, after so many uses.
 func unused(uses int) api.Node {
-	return api.Node{Uses: uses, Parent: none, Host: none}
-}
-
-// rightUnder is the place of what a node stands right under.
-func rightUnder(n api.Node) int {
-	if n.Host != none {
-		return n.Host
-	}
-	return n.Parent
+	return api.Node{Uses: uses, Parent: ground.None, Host: ground.None}
 }
 
 // isHost tells whether the node at a place is the Host of some node.
@@ -109,26 +99,4 @@ func isHost(s api.Store, place int) bool {
 func sameNode(a, b api.Node) bool {
 	return a.Used == b.Used && a.Uses == b.Uses && a.Tag == b.Tag && a.Mark == b.Mark &&
 		a.Parent == b.Parent && slices.Equal(a.Kids, b.Kids) && a.Host == b.Host && a.Closed == b.Closed
-}
-
-// copyStore answers a store of new memory throughout.
-func copyStore(s api.Store) api.Store {
-	nodes := make([]api.Node, len(s.Nodes))
-	for k, n := range s.Nodes {
-		nodes[k] = copyNode(n)
-	}
-	return api.Store{Nodes: nodes}
-}
-
-// copyNode answers a node whose Kids are new memory.
-func copyNode(n api.Node) api.Node {
-	kids := make([]int, len(n.Kids))
-	copy(kids, n.Kids)
-	n.Kids = kids
-	return n
-}
-
-// within tells whether x is from low to high.
-func within(x, low, high int) bool {
-	return low <= x && x <= high
 }

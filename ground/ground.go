@@ -1,0 +1,66 @@
+// Package ground: what the layers share of nodes and places. It takes any store, a wrong one too.
+package ground
+
+import "glasshouse/api"
+
+// None is the Parent of what is nobody's child, and the Host of what is no root.
+const None = -1
+
+// Within tells whether x is from low to high.
+func Within(x, low, high int) bool {
+	return low <= x && x <= high
+}
+
+// Copy answers a store of new memory throughout.
+func Copy(s api.Store) api.Store {
+	nodes := make([]api.Node, len(s.Nodes))
+	for k, n := range s.Nodes {
+		nodes[k] = CopyNode(n)
+	}
+	return api.Store{Nodes: nodes}
+}
+
+// CopyNode answers a node whose Kids are new memory.
+func CopyNode(n api.Node) api.Node {
+	kids := make([]int, len(n.Kids))
+	copy(kids, n.Kids)
+	n.Kids = kids
+	return n
+}
+
+// RightUnder is the place of what a node stands right under.
+func RightUnder(n api.Node) int {
+	if n.Host != None {
+		return n.Host
+	}
+	return n.Parent
+}
+
+// Climb visits what the node at a place stands right under, and so on, as long as there is such a place and visit says so. It takes no more steps than there are places: in a ring there is no last one.
+func Climb(s api.Store, place int, visit func(at int) bool) {
+	if !isPlace(s, place) {
+		return
+	}
+	at := RightUnder(s.Nodes[place])
+	for range s.Nodes {
+		if !isPlace(s, at) || !visit(at) {
+			return
+		}
+		at = RightUnder(s.Nodes[at])
+	}
+}
+
+// Under tells whether the node at a place stands, at some step, under the one above.
+func Under(s api.Store, place, above int) bool {
+	found := false
+	Climb(s, place, func(at int) bool {
+		found = at == above
+		return !found
+	})
+	return found
+}
+
+// isPlace tells whether the store has such a place.
+func isPlace(s api.Store, place int) bool {
+	return Within(place, 0, len(s.Nodes)-1)
+}

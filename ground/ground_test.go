@@ -1,0 +1,110 @@
+package ground_test
+
+import (
+	"reflect"
+	"testing"
+
+	"glasshouse/api"
+	"glasshouse/ground"
+)
+
+// line is a store in which 0 is the Parent of 1, 1 the Host of 2, and 2 the Parent of 3; 4 stands nowhere.
+func line() api.Store {
+	return api.Store{Nodes: []api.Node{
+		{Parent: -1, Host: -1, Kids: []int{1}},
+		{Parent: 0, Host: -1},
+		{Parent: -1, Host: 1, Kids: []int{3}},
+		{Parent: 2, Host: -1},
+		{Parent: -1, Host: -1},
+	}}
+}
+
+// ring is a store in which two nodes stand right under each other, and a third one under both.
+func ring() api.Store {
+	return api.Store{Nodes: []api.Node{{Parent: 1, Host: -1}, {Parent: -1, Host: 0}, {Parent: 1, Host: -1}}}
+}
+
+// climbed is what Climb visits, at most so much of it.
+func climbed(s api.Store, place, most int) []int {
+	at := []int{}
+	ground.Climb(s, place, func(k int) bool {
+		at = append(at, k)
+		return len(at) < most
+	})
+	return at
+}
+
+func TestClimb(t *testing.T) {
+	cut := api.Store{Nodes: []api.Node{{Parent: 1, Host: -1}, {Parent: -5, Host: 2}}}
+	for _, c := range []struct {
+		what        string
+		s           api.Store
+		place, most int
+		want        []int
+	}{
+		{"all the way", line(), 3, 9, []int{2, 1, 0}},
+		{"as long as visit says so", line(), 3, 2, []int{2, 1}},
+		{"from the top", line(), 0, 9, []int{}},
+		{"from a node that stands nowhere", line(), 4, 9, []int{}},
+		{"from no place", line(), 5, 9, []int{}},
+		{"from below all places", line(), -1, 9, []int{}},
+		{"a ring", ring(), 0, 9, []int{1, 0, 1}},
+		{"into a ring", ring(), 2, 9, []int{1, 0, 1}},
+		{"up to what is no place", cut, 0, 9, []int{1}},
+		{"no places", api.Store{}, 0, 9, []int{}},
+	} {
+		if got := climbed(c.s, c.place, c.most); !reflect.DeepEqual(got, c.want) {
+			t.Errorf("%s: %v, want %v", c.what, got, c.want)
+		}
+	}
+}
+
+func TestUnder(t *testing.T) {
+	for place := range 5 {
+		for above := range 5 {
+			want := above < place && place < 4
+			if got := ground.Under(line(), place, above); got != want {
+				t.Errorf("%d under %d: %t", place, above, got)
+			}
+		}
+	}
+	if !ground.Under(ring(), 0, 0) || ground.Under(ring(), 2, 2) {
+		t.Error("who is in a ring stands under itself, and nobody else")
+	}
+}
+
+func TestRightUnder(t *testing.T) {
+	for _, c := range []struct{ parent, host, want int }{{-1, -1, -1}, {4, -1, 4}, {-1, 3, 3}, {4, 3, 3}, {0, 0, 0}} {
+		if got := ground.RightUnder(api.Node{Parent: c.parent, Host: c.host}); got != c.want {
+			t.Errorf("Parent %d, Host %d: %d, want %d", c.parent, c.host, got, c.want)
+		}
+	}
+}
+
+func TestWithin(t *testing.T) {
+	for _, c := range []struct {
+		x, low, high int
+		want         bool
+	}{{1, 1, 3, true}, {3, 1, 3, true}, {0, 1, 3, false}, {4, 1, 3, false}, {2, 3, 1, false}} {
+		if got := ground.Within(c.x, c.low, c.high); got != c.want {
+			t.Errorf("%d from %d to %d: %t", c.x, c.low, c.high, got)
+		}
+	}
+}
+
+// TestCopy: a copy is like what it was made of, and shares nothing with it, nor within itself.
+func TestCopy(t *testing.T) {
+	kids := []int{7, 8, 9}
+	n := api.Node{Used: true, Uses: 2, Tag: 3, Mark: 4, Parent: 5, Kids: kids[:2], Host: 6, Closed: true}
+	s := api.Store{Nodes: []api.Node{n, n, n}[:2]}
+	c := ground.Copy(s)
+	if !reflect.DeepEqual(c, s) {
+		t.Errorf("a copy: %+v, want %+v", c, s)
+	}
+	c.Nodes[0].Kids[0] = 50
+	_ = append(c.Nodes[0].Kids, 51)
+	_ = append(c.Nodes, api.Node{})
+	if c.Nodes[1].Kids[0] != 7 || !reflect.DeepEqual(kids, []int{7, 8, 9}) || s.Nodes[:3][2].Uses != 2 {
+		t.Error("a copy shares memory")
+	}
+}
