@@ -36,24 +36,29 @@ func RightUnder(n api.Node) int {
 	return n.Parent
 }
 
-// Climb visits what the node at a place stands right under, and so on, as long as there is such a place and visit says so. It takes no more steps than there are places: in a ring there is no last one.
-func Climb(s api.Store, place int, visit func(at int) bool) {
+// Parent is the place of what a node is the child of.
+func Parent(n api.Node) int {
+	return n.Parent
+}
+
+// Climb visits what up says of the node at a place, and of that, and so on, as long as there is such a place and visit says so. It takes no more steps than there are places: in a ring there is no last one.
+func Climb(s api.Store, place int, up func(n api.Node) int, visit func(at int) bool) {
 	if !isPlace(s, place) {
 		return
 	}
-	at := RightUnder(s.Nodes[place])
+	at := up(s.Nodes[place])
 	for range s.Nodes {
 		if !isPlace(s, at) || !visit(at) {
 			return
 		}
-		at = RightUnder(s.Nodes[at])
+		at = up(s.Nodes[at])
 	}
 }
 
 // Under tells whether the node at a place stands, at some step, under the one above.
 func Under(s api.Store, place, above int) bool {
 	found := false
-	Climb(s, place, func(at int) bool {
+	Climb(s, place, RightUnder, func(at int) bool {
 		found = at == above
 		return !found
 	})

@@ -25,9 +25,9 @@ func ring() api.Store {
 }
 
 // climbed is what Climb visits, at most so much of it.
-func climbed(s api.Store, place, most int) []int {
+func climbed(s api.Store, place, most int, up func(n api.Node) int) []int {
 	at := []int{}
-	ground.Climb(s, place, func(k int) bool {
+	ground.Climb(s, place, up, func(k int) bool {
 		at = append(at, k)
 		return len(at) < most
 	})
@@ -36,25 +36,32 @@ func climbed(s api.Store, place, most int) []int {
 
 func TestClimb(t *testing.T) {
 	cut := api.Store{Nodes: []api.Node{{Parent: 1, Host: -1}, {Parent: -5, Host: 2}}}
+	loop := api.Store{Nodes: []api.Node{{Parent: 0, Host: -1}, {Parent: 0, Host: -1}}}
 	for _, c := range []struct {
-		what        string
-		s           api.Store
-		place, most int
-		want        []int
+		what              string
+		s                 api.Store
+		place, most       int
+		want, wantParents []int
 	}{
-		{"all the way", line(), 3, 9, []int{2, 1, 0}},
-		{"as long as visit says so", line(), 3, 2, []int{2, 1}},
-		{"from the top", line(), 0, 9, []int{}},
-		{"from a node that stands nowhere", line(), 4, 9, []int{}},
-		{"from no place", line(), 5, 9, []int{}},
-		{"from below all places", line(), -1, 9, []int{}},
-		{"a ring", ring(), 0, 9, []int{1, 0, 1}},
-		{"into a ring", ring(), 2, 9, []int{1, 0, 1}},
-		{"up to what is no place", cut, 0, 9, []int{1}},
-		{"no places", api.Store{}, 0, 9, []int{}},
+		{"all the way", line(), 3, 9, []int{2, 1, 0}, []int{2}},
+		{"as long as visit says so", line(), 3, 2, []int{2, 1}, []int{2}},
+		{"no more than one", line(), 3, 1, []int{2}, []int{2}},
+		{"from a root", line(), 2, 9, []int{1, 0}, []int{}},
+		{"from the top", line(), 0, 9, []int{}, []int{}},
+		{"from a node that stands nowhere", line(), 4, 9, []int{}, []int{}},
+		{"from no place", line(), 5, 9, []int{}, []int{}},
+		{"from below all places", line(), -1, 9, []int{}, []int{}},
+		{"a ring", ring(), 0, 9, []int{1, 0, 1}, []int{1}},
+		{"into a ring", ring(), 2, 9, []int{1, 0, 1}, []int{1}},
+		{"a ring of one", loop, 1, 9, []int{0, 0}, []int{0, 0}},
+		{"up to what is no place", cut, 0, 9, []int{1}, []int{1}},
+		{"no places", api.Store{}, 0, 9, []int{}, []int{}},
 	} {
-		if got := climbed(c.s, c.place, c.most); !reflect.DeepEqual(got, c.want) {
+		if got := climbed(c.s, c.place, c.most, ground.RightUnder); !reflect.DeepEqual(got, c.want) {
 			t.Errorf("%s: %v, want %v", c.what, got, c.want)
+		}
+		if got := climbed(c.s, c.place, c.most, ground.Parent); !reflect.DeepEqual(got, c.wantParents) {
+			t.Errorf("%s, by Parents: %v, want %v", c.what, got, c.wantParents)
 		}
 	}
 }
