@@ -1,7 +1,11 @@
 // Package ground: what the layers share of nodes and places. It takes any store, a wrong one too.
 package ground
 
-import "glasshouse/api"
+import (
+	"slices"
+
+	"glasshouse/api"
+)
 
 // None is the Parent of what is nobody's child, and the Host of what is no root.
 const None = -1
@@ -43,12 +47,12 @@ func Parent(n api.Node) int {
 
 // Climb visits what up says of the node at a place, and of that, and so on, as long as there is such a place and visit says so. It takes no more steps than there are places: in a ring there is no last one.
 func Climb(s api.Store, place int, up func(n api.Node) int, visit func(at int) bool) {
-	if !isPlace(s, place) {
+	if !IsPlace(s, place) {
 		return
 	}
 	at := up(s.Nodes[place])
 	for range s.Nodes {
-		if !isPlace(s, at) || !visit(at) {
+		if !IsPlace(s, at) || !visit(at) {
 			return
 		}
 		at = up(s.Nodes[at])
@@ -65,7 +69,14 @@ func Under(s api.Store, place, above int) bool {
 	return found
 }
 
-// isPlace tells whether the store has such a place.
-func isPlace(s api.Store, place int) bool {
+// IsPlace tells whether the store has such a place.
+func IsPlace(s api.Store, place int) bool {
 	return Within(place, 0, len(s.Nodes)-1)
+}
+
+// IsHost tells whether the node at a place is the Host of some node.
+func IsHost(s api.Store, place int) bool {
+	return slices.ContainsFunc(s.Nodes, func(n api.Node) bool {
+		return n.Host == place
+	})
 }

@@ -80,6 +80,25 @@ func TestUnder(t *testing.T) {
 	}
 }
 
+func TestIsPlace(t *testing.T) {
+	for place, want := range map[int]bool{-1: false, 0: true, 4: true, 5: false} {
+		if got := ground.IsPlace(line(), place); got != want {
+			t.Errorf("%d: %t", place, got)
+		}
+	}
+	if ground.IsPlace(api.Store{}, 0) {
+		t.Error("a store of nothing has a place")
+	}
+}
+
+func TestIsHost(t *testing.T) {
+	for place := range 6 {
+		if got := ground.IsHost(line(), place); got != (place == 1) {
+			t.Errorf("%d: %t", place, got)
+		}
+	}
+}
+
 func TestRightUnder(t *testing.T) {
 	for _, c := range []struct{ parent, host, want int }{{-1, -1, -1}, {4, -1, 4}, {-1, 3, 3}, {4, 3, 3}, {0, 0, 0}} {
 		if got := ground.RightUnder(api.Node{Parent: c.parent, Host: c.host}); got != c.want {

@@ -47,7 +47,7 @@ func Make(s api.Store, tag int) (api.Store, api.Hand, api.Errno) {
 
 // Holds answers what keeps a hand from holding a node. The store may be any, a wrong one too.
 func Holds(s api.Store, h api.Hand) api.Errno {
-	if !ground.Within(h.Place, 0, len(s.Nodes)-1) {
+	if !ground.IsPlace(s, h.Place) {
 		return api.ErrWho
 	}
 	node := s.Nodes[h.Place]
@@ -74,7 +74,7 @@ func Free(s api.Store, h api.Hand) (api.Store, api.Errno) {
 	if e != api.OK {
 		return api.Store{}, e
 	}
-	if ground.RightUnder(node) != ground.None || len(node.Kids) > 0 || isHost(s, h.Place) {
+	if ground.RightUnder(node) != ground.None || len(node.Kids) > 0 || ground.IsHost(s, h.Place) {
 		return api.Store{}, api.ErrTree
 	}
 	freed := ground.Copy(s)
@@ -86,13 +86,6 @@ func Free(s api.Store, h api.Hand) (api.Store, api.Errno) {
 // unused is a place that nothing is in, after so many uses.
 func unused(uses int) api.Node {
 	return api.Node{Uses: uses, Parent: ground.None, Host: ground.None}
-}
-
-// isHost tells whether the node at a place is the Host of some node.
-func isHost(s api.Store, place int) bool {
-	return slices.ContainsFunc(s.Nodes, func(n api.Node) bool {
-		return n.Host == place
-	})
 }
 
 // sameNode tells whether all fields of two nodes are alike; a list of nothing is like any other one.
