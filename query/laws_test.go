@@ -53,16 +53,17 @@ func isSo(s api.Store, under [][]bool, place int, q []api.Test) bool {
 	return false
 }
 
-// holdAgainst holds Fits of all nodes that are in use, and Find of a right store, against the chapter's words.
+// holdAgainst holds Fits and Find of all nodes, which are in use, against the chapter's words; of a wrong store, against Check's.
 func holdAgainst(t *testing.T, s api.Store, q []api.Test) {
 	t.Helper()
+	wantE := store.Check(s)
 	under := standsUnder(s)
 	for place := range s.Nodes {
-		want := isSo(s, under, place, q)
-		if got, e := query.Fits(s, on(place), q); e != api.OK || got != want {
-			t.Fatalf("of %+v, %d, %+v: Fits answers %t, errno %d, want %t", s, place, q, got, e, want)
+		want := wantE == api.OK && isSo(s, under, place, q)
+		if got, e := query.Fits(s, on(place), q); e != wantE || got != want {
+			t.Fatalf("of %+v, %d, %+v: Fits answers %t, errno %d, want %t, %d", s, place, q, got, e, want, wantE)
 		}
-		order, wantE := tree.Order(s, on(place))
+		order, _ := tree.Order(s, on(place))
 		var found []int
 		for k, at := range order {
 			if k > 0 && isSo(s, under, at, q) {
@@ -186,49 +187,26 @@ func TestOneTestMore(t *testing.T) {
 	}
 }
 
-// TestFitsOfWildStores: Fits ends, whatever stands above a node, and goes by Parents alone.
-func TestFitsOfWildStores(t *testing.T) {
-	long := func(q ...api.Test) []api.Test {
-		return append(slices.Repeat(ask(tag(whatever)), api.MaxTests-len(q)), q...)
-	}
-	ring := planted(spot{1, 0, 2}, spot{2, 0, 0}, spot{3, 0, 1}, spot{4, 0, 1})
-	wantFits(t, "a ring", ring, on(0), long(tag(whatever)), true, api.OK)
-	wantFits(t, "under itself, in a ring", ring, on(0), ask(tag(1), tag(1)), true, api.OK)
-	wantFits(t, "round a ring and on", ring, on(0), ask(tag(3), near(1), near(2), near(3), near(1)), true, api.OK)
-	wantFits(t, "round a ring the other way", ring, on(0), ask(tag(2), near(1)), false, api.OK)
-	wantFits(t, "into a ring", ring, on(3), ask(tag(1), near(2), near(3), near(1), near(2), near(4)), true, api.OK)
-	wantFits(t, "into a ring, and not under itself", ring, on(3), ask(tag(4), tag(4)), false, api.OK)
-	meet := planted(spot{1, 0, 2}, spot{2, 0, 0}, spot{3, 0, 1}, spot{3, 0, 1}, spot{4, 0, 3})
-	wantFits(t, "two of one parent", meet, on(4), ask(tag(2), near(3), tag(4)), true, api.OK)
-	wantFits(t, "two of one parent, and not of its parent", meet, on(4), ask(tag(1), near(3), tag(4)), false, api.OK)
-	wantFits(t, "its own parent", planted(spot{1, 0, 0}), on(0), long(near(whatever)), true, api.OK)
-	wantFits(t, "its own parent, of another tag", planted(spot{1, 0, 0}), on(0), long(near(2)), false, api.OK)
-	for _, far := range []int{-1 << 62, -2, 1, 2, 1 << 62} {
-		wantFits(t, "a parent far away", planted(spot{1, 0, far}), on(0), ask(tag(1)), true, api.OK)
-		wantFits(t, "under one far away", planted(spot{1, 0, far}), on(0), ask(tag(whatever), tag(1)), false, api.OK)
-	}
-	both := planted(spot{1, 0, -1}, spot{2, 0, -1}, spot{3, 0, 0})
-	both.Nodes[2].Host = 1
-	wantFits(t, "a parent and a host", both, on(2), ask(tag(1), near(3)), true, api.OK)
-	wantFits(t, "a host and a parent", both, on(2), ask(tag(2), tag(3)), false, api.OK)
-	odd := planted(spot{whatever, whatever, -1})
-	wantFits(t, "a tag that no test may ask for", odd, on(0), ask(tag(whatever)), true, api.OK)
-	wantFits(t, "a tag that isn't so", odd, on(0), ask(tag(0)), false, api.OK)
-}
-
-// TestFitsOfGreatStores: where many ways lead up, the tests don't go each of them.
-func TestFitsOfGreatStores(t *testing.T) {
+// TestRings: where there is no last one above, every call ends, and says what Check says.
+func TestRings(t *testing.T) {
 	const places = 20000
 	spots := make([]spot, places)
 	for k := range spots {
-		spots[k] = spot{1, 0, k - 1}
+		spots[k] = spot{1, 0, (k + places - 1) % places}
 	}
-	q := append(ask(tag(2)), slices.Repeat(ask(tag(1)), api.MaxTests-1)...)
-	wantFits(t, "a long line", planted(spots...), on(places-1), q, false, api.OK)
-	spots[0].parent = places - 1
-	wantFits(t, "a great ring", planted(spots...), on(places-1), q, false, api.OK)
-	spots[places/2].tag = 2
-	wantFits(t, "a great ring with one of the tag", planted(spots...), on(0), q, true, api.OK)
+	q := slices.Repeat(ask(tag(1)), api.MaxTests)
+	wantFits(t, "a great ring", planted(spots...), on(0), q, false, api.ErrMany)
+	wantFound(t, "a great ring", planted(spots...), on(0), q, nil, api.ErrMany)
+	for _, ring := range []api.Store{
+		planted(spot{1, 0, 0}),
+		planted(spot{1, 0, 1}, spot{1, 0, 0}),
+		planted(spot{1, 0, 2}, spot{1, 0, 0}, spot{1, 0, 1}, spot{1, 0, 1}),
+	} {
+		for place := range ring.Nodes {
+			wantFits(t, "a ring", ring, on(place), q, false, api.ErrTree)
+			wantFound(t, "a ring", ring, on(place), q, nil, api.ErrTree)
+		}
+	}
 }
 
 // TestNothingIsSharedOrChanged: what was handed in stays as it was, and the spare room behind it, whatever is done to the answer.

@@ -179,7 +179,7 @@ func TestWrongHands(t *testing.T) {
 	wantFound(t, "no places", api.Store{}, on(0), nil, nil, api.ErrWho)
 }
 
-// TestWrongStores: Find tells what is wrong with the store ahead of all else; Fits doesn't ask.
+// TestWrongStores: what is wrong with the store is told ahead of all else.
 func TestWrongStores(t *testing.T) {
 	changed := func(place int, change func(n *api.Node)) api.Store {
 		s := garden()
@@ -200,11 +200,12 @@ func TestWrongStores(t *testing.T) {
 		if e := store.Check(c.s); e != c.want {
 			t.Fatalf("%s: Check answers %d", c.what, e)
 		}
-		wantFound(t, c.what, c.s, on(0), ask(tag(whatever)), nil, c.want)
-		wantFound(t, c.what+", no such hand, no query", c.s, on(99), nil, nil, c.want)
-		wantFits(t, c.what, c.s, on(0), ask(tag(whatever)), true, api.OK)
-		wantFits(t, c.what+", no query", c.s, on(0), nil, false, api.ErrMany)
-		wantFits(t, c.what+", no such hand", c.s, on(99), nil, false, api.ErrWho)
+		for _, h := range []api.Hand{on(0), on(5), on(8), on(99), {}} {
+			for what, q := range map[string][]api.Test{"a right query": ask(tag(whatever)), "no query": nil, "a wrong query": ask(near(-1))} {
+				wantFound(t, c.what+", "+what, c.s, h, q, nil, c.want)
+				wantFits(t, c.what+", "+what, c.s, h, q, false, c.want)
+			}
+		}
 	}
 }
 

@@ -193,29 +193,34 @@ func TestAllAttaches(t *testing.T) {
 	}
 }
 
-// TestAllSmallStores: of wrong stores, too (rings, hosts of two, those that name no place; Closed, and no root), Seen is as the chapter says, Path names what the node stands under, each once, and Target ends.
+// TestAllSmallStores: of wrong ones (rings, hosts of two, those that name no place) all calls say what Check says, and Target ends.
 func TestAllSmallStores(t *testing.T) {
 	const places = 3
+	wrong := 0
 	allStores(places, places, func(s api.Store) {
-		s.Nodes[0].Closed = true
-		in := standsIn(s)
+		want := store.Check(s)
+		if want == api.OK {
+			return
+		}
+		wrong++
 		for from := range places {
+			attached, h, e := shadow.Attach(s, on(from), false)
+			wantWrong(t, "Attach", e, want, attached, h)
 			path, e := shadow.Path(s, on(from))
-			if e != api.OK || len(path) > places {
-				t.Fatalf("of %+v, path of %d: %v, errno %d", s, from, path, e)
-			}
+			wantWrong(t, "Path", e, want, path)
 			for to := range places {
-				if slices.Contains(path, to) != in[from][to] {
-					t.Fatalf("of %+v, path of %d: %v: is %d on it?", s, from, path, to)
-				}
-				got, e := shadow.Seen(s, on(from), on(to))
-				if want := seen(s, in, from, to); e != api.OK || got != want {
-					t.Fatalf("of %+v, is %d seen from %d: %t, errno %d, want %t", s, to, from, got, e, want)
-				}
+				sees, e := shadow.Seen(s, on(from), on(to))
+				wantWrong(t, "Seen", e, want, sees)
 				shadow.Target(s, to, from)
 			}
 		}
+		if t.Failed() {
+			t.Fatalf("of %+v", s)
+		}
 	})
+	if wrong < 1000 {
+		t.Errorf("%d wrong stores: too few", wrong)
+	}
 }
 
 // TestWild: no call panics, whatever it is given, and the same call answers the same.
@@ -250,35 +255,54 @@ func holdTwice(t *testing.T, s api.Store, a, b api.Hand) {
 	}
 }
 
-// TestGreatStores: long ways up, and great rings, take no long time.
-func TestGreatStores(t *testing.T) {
-	const places = 200000
+// rootsInRoots is a store of as many nodes as said, each the open root of the one ahead.
+func rootsInRoots(places int) api.Store {
 	nodes := []api.Node{alone()}
 	for k := range places - 1 {
 		nodes = append(nodes, root(k, false))
 	}
-	last := places - 1
+	return api.Store{Nodes: nodes}
+}
+
+// TestFullStore: roots in roots, as many as may be.
+func TestFullStore(t *testing.T) {
+	s, last := rootsInRoots(api.MaxNodes), api.MaxNodes-1
 	hold := func(what string, wantSeen bool) {
 		t.Helper()
-		s := api.Store{Nodes: nodes}
 		path, e := shadow.Path(s, on(last))
-		if e != api.OK || len(path) != places {
-			t.Errorf("%s: a path of %d places, errno %d", what, len(path), e)
+		if e != api.OK || len(path) != api.MaxNodes || path[last] != 0 {
+			t.Errorf("%s: path %v, errno %d", what, path, e)
 		}
 		got, e := shadow.Seen(s, on(0), on(last))
 		if e != api.OK || got != wantSeen {
 			t.Errorf("%s: %t, errno %d", what, got, e)
 		}
-		shadow.Target(s, last, last/2)
+		for told := range s.Nodes {
+			if got := shadow.Target(s, last, told); got != told {
+				t.Errorf("%s: told %d: %d", what, told, got)
+			}
+		}
 	}
 	hold("all open", true)
-	if got := shadow.Target(api.Store{Nodes: nodes}, last, 0); got != 0 {
-		t.Errorf("told outside of all roots: %d", got)
-	}
-	nodes[places/2].Closed = true
+	s.Nodes[api.MaxNodes/2].Closed = true
 	hold("one closed", false)
-	nodes[0] = root(last, true)
-	hold("a ring", true)
+}
+
+// TestGreatStores: of more nodes than may be, in long ways up and great rings, no call takes a long time.
+func TestGreatStores(t *testing.T) {
+	const places = 200000
+	s, last := rootsInRoots(places), places-1
+	for range 2 {
+		attached, h, e := shadow.Attach(s, on(last), true)
+		wantWrong(t, "Attach", e, api.ErrMany, attached, h)
+		path, e := shadow.Path(s, on(last))
+		wantWrong(t, "Path", e, api.ErrMany, path)
+		sees, e := shadow.Seen(s, on(0), on(last))
+		wantWrong(t, "Seen", e, api.ErrMany, sees)
+		shadow.Target(s, last, 0)
+		shadow.Target(s, last, last/2)
+		s.Nodes[0] = root(last, true)
+	}
 }
 
 // TestNothingIsSharedOrChanged: what was handed in stays as it was, and the spare room behind it, whatever is done to the answers.

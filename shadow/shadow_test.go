@@ -183,20 +183,49 @@ func TestAttachPlace(t *testing.T) {
 	}
 }
 
-// TestAttachToWrongStores: Attach says Find's error, not Check's.
-func TestAttachToWrongStores(t *testing.T) {
-	got, h, e := shadow.Attach(of(child(1), child(0), gone()), on(0), true)
-	if e != api.OK || h != (api.Hand{Place: 2, Use: 2}) || got.Nodes[2].Host != 0 {
-		t.Errorf("in a ring: %+v, %+v, errno %d", got, h, e)
+// wrongStores are some of each error that Check has; what is in their first place is in use in all of them.
+func wrongStores() map[string]api.Store {
+	changed := func(place int, change func(n *api.Node)) api.Store {
+		s := house()
+		change(&s.Nodes[place])
+		return s
 	}
-	great := make([]api.Node, api.MaxNodes+2)
-	for k := range great {
-		great[k] = alone()
-	}
+	great := slices.Repeat([]api.Node{alone()}, api.MaxNodes+2)
 	great[api.MaxNodes+1] = gone()
-	_, h, e = shadow.Attach(of(great...), on(0), true)
-	if e != api.OK || h != (api.Hand{Place: api.MaxNodes + 1, Use: 2}) {
-		t.Errorf("in a great store: %+v, errno %d", h, e)
+	return map[string]api.Store{
+		"too many places":         of(great...),
+		"a tag that may not be":   changed(atom, func(n *api.Node) { n.Tag = -1 }),
+		"a host far away":         changed(core, func(n *api.Node) { n.Host = 50 }),
+		"closed, and no root":     changed(lawn, func(n *api.Node) { n.Closed = true }),
+		"a host and a parent":     changed(atom, func(n *api.Node) { n.Host = lawn }),
+		"gone, and a host":        changed(ash, func(n *api.Node) { n.Host = lawn }),
+		"a root of what is gone":  changed(mesh, func(n *api.Node) { n.Host = ash }),
+		"a host of two":           changed(mesh, func(n *api.Node) { n.Host = wall }),
+		"a ring of children":      of(child(1), child(0), gone()),
+		"a ring of roots":         of(root(1, true), root(0, true), gone()),
+		"its own host, elsewhere": of(alone(), root(1, true), gone()),
+	}
+}
+
+// TestWrongStores: what is wrong with the store is told ahead of what is wrong with hands, hosts and room; Target ends.
+func TestWrongStores(t *testing.T) {
+	for what, s := range wrongStores() {
+		want := store.Check(s)
+		if want == api.OK {
+			t.Errorf("%s: Check says nothing", what)
+		}
+		for _, h := range []api.Hand{on(0), on(1), on(ash), on(housePlaces + 20), {}} {
+			got, root, e := shadow.Attach(s, h, true)
+			wantWrong(t, what+": Attach", e, want, got, root)
+			from, e := shadow.Seen(s, h, on(0))
+			wantWrong(t, what+": Seen from there", e, want, from)
+			to, e := shadow.Seen(s, on(0), h)
+			wantWrong(t, what+": Seen", e, want, to)
+			path, e := shadow.Path(s, h)
+			wantWrong(t, what+": Path", e, want, path)
+			shadow.Target(s, h.Place, 0)
+			shadow.Target(s, 0, h.Place)
+		}
 	}
 }
 

@@ -9,14 +9,18 @@ import (
 	"glasshouse/store"
 )
 
-// roomy is a store whose lists have spare room behind them, with something in it, and whose nodes share one list.
-func roomy() (api.Store, func() [][]int, func() []api.Node) {
-	shared := []int{1, 2, 70, 71}
-	nodes := append(make([]api.Node, 0, 8), kid(-1, shared[:2]...), kid(0), kid(0), node(), empty(), used(40), used(41))
-	nodes[4].Kids = shared[2:2]
-	nodes[5].Kids = shared[:2]
-	lists := func() [][]int { return [][]int{shared} }
-	return api.Store{Nodes: nodes[:6]}, lists, func() []api.Node { return nodes[:7] }
+// roomy is a store whose lists have spare room behind them, with something in it: behind one node's Kids are another one's.
+func roomy() (api.Store, func() []int, func() []api.Node) {
+	shared := []int{1, 2, 6, 70, 71}
+	nodes := append(make([]api.Node, 0, 10), kid(-1, shared[:2]...), kid(0), kid(0), node(), empty(), kid(-1, shared[2:3]...), kid(5), used(40), used(41))
+	nodes[3].Kids = shared[:0]
+	nodes[4].Kids = shared[3:3]
+	return api.Store{Nodes: nodes[:7]}, func() []int { return shared }, func() []api.Node { return nodes }
+}
+
+func TestRoomyIsRight(t *testing.T) {
+	s, _, _ := roomy()
+	wantErrno(t, "check", store.Check(s), api.OK)
 }
 
 // spoil writes over all that an answer has, and behind it.
@@ -74,10 +78,12 @@ func TestNothingIsSharedOrChanged(t *testing.T) {
 func TestAnswersShareNothing(t *testing.T) {
 	s, _, _ := roomy()
 	made, _, _ := store.Make(s, 9)
-	made.Nodes[0].Kids[0] = 50
-	if made.Nodes[5].Kids[0] != 1 {
+	made.Nodes[0].Kids = append(made.Nodes[0].Kids, 50)
+	made.Nodes[3].Kids = append(made.Nodes[3].Kids, 51)
+	if made.Nodes[5].Kids[0] != 6 || made.Nodes[0].Kids[0] != 1 {
 		t.Error("two nodes of an answer share their Kids")
 	}
+	made.Nodes[0].Kids[0] = 50
 	again, _, _ := store.Make(s, 9)
 	if again.Nodes[0].Kids[0] != 1 {
 		t.Error("two answers share memory")

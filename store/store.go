@@ -27,6 +27,9 @@ func Same(a, b api.Store) bool {
 
 // Make puts a node into the first place that can take one, and answers a hand on it.
 func Make(s api.Store, tag int) (api.Store, api.Hand, api.Errno) {
+	if e := Check(s); e != api.OK {
+		return api.Store{}, api.Hand{}, e
+	}
 	if !ground.Within(tag, 0, api.MaxTag) {
 		return api.Store{}, api.Hand{}, api.ErrRange
 	}
@@ -62,6 +65,10 @@ func Holds(s api.Store, h api.Hand) api.Errno {
 
 // Find answers the node that a hand holds.
 func Find(s api.Store, h api.Hand) (api.Node, api.Errno) {
+	// Holds doesn't Check: of a wrong store it would answer as of a right one.
+	if e := Check(s); e != api.OK {
+		return api.Node{}, e
+	}
 	if e := Holds(s, h); e != api.OK {
 		return api.Node{}, e
 	}

@@ -141,23 +141,62 @@ func TestMakeWrong(t *testing.T) {
 	}
 }
 
-// Make tells of no store that it is wrong; what nothing is said of stays.
-func TestMakeDoesNotCheck(t *testing.T) {
-	odd := api.Node{Uses: -5, Mark: math.MaxInt, Parent: -9, Kids: []int{77}, Host: 8, Closed: true}
-	s := many(api.MaxNodes+1, used(1))
-	s.Nodes[24] = odd
-	made, h, e := store.Make(s, 1)
-	wantErrno(t, "make", e, api.OK)
-	if want := (api.Hand{Place: 24, Use: -4}); h != want {
-		t.Errorf("make: hand %+v, want %+v", h, want)
+// wrongStores are some of each error that Check has.
+func wrongStores() map[string]api.Store {
+	closed := with(node(), func(n *api.Node) { n.Closed = true })
+	return map[string]api.Store{
+		"too many":                   many(api.MaxNodes+1, empty()),
+		"too many, the first in use": {Nodes: append([]api.Node{node()}, many(api.MaxNodes, empty()).Nodes...)},
+		"Uses out of range":          of(used(math.MaxInt), empty()),
+		"Uses below 0":               of(node(), left(-5)),
+		"a tag out of range":         of(with(node(), func(n *api.Node) { n.Tag = api.MaxTag + 1 }), empty()),
+		"a mark out of range":        of(node(), empty(), with(node(), func(n *api.Node) { n.Mark = api.MaxValue + 1 })),
+		"no such kid":                of(kid(-1, 9), empty()),
+		"no such parent":             of(kid(-7), empty()),
+		"no such host":               of(node(), root(99), empty()),
+		"zero":                       of(node(), api.Node{}),
+		"closed, no host":            of(closed, empty()),
+		"a tag, not used":            of(node(), with(empty(), func(n *api.Node) { n.Tag = 5 })),
+		"a host, not used":           of(node(), with(empty(), func(n *api.Node) { n.Host = 0 })),
+		"a host and a parent":        of(kid(-1, 1), with(kid(0), func(n *api.Node) { n.Host = 0 }), empty()),
+		"used, no uses":              of(node(), used(0), empty()),
+		"in nobody's kids":           of(node(), kid(0), empty()),
+		"a child that is -1":         of(kid(-1, -1), empty()),
+		"a host of two":              of(node(), root(0), root(0), empty()),
+		"a ring":                     of(kid(1, 1), kid(0, 0), empty()),
+		"a ring far from the first":  of(node(), root(2), root(1), empty()),
 	}
-	odd.Used, odd.Uses, odd.Tag = true, -4, 1
-	s.Nodes[24] = odd
-	wantStore(t, "make", made, s)
+}
+
+// TestTheOthersSayItFirst: what Check says of a store, Make, Find and Free say ahead of all that is theirs; Holds and Same take any store.
+func TestTheOthersSayItFirst(t *testing.T) {
+	for what, s := range wrongStores() {
+		want := store.Check(s)
+		if want == api.OK {
+			t.Errorf("%s: Check says nothing", what)
+		}
+		for _, tag := range []int{0, api.MaxTag, -1, api.MaxTag + 1, math.MinInt} {
+			made, h, e := store.Make(s, tag)
+			wantErrno(t, what+": make", e, want)
+			wantZero(t, what+": make", made)
+			wantZero(t, what+": make", h)
+		}
+		for _, h := range []api.Hand{{Place: 0, Use: 1}, {Place: 1, Use: 1}, {Place: 0, Use: 2}, {}, {Place: -1, Use: 1}, {Place: 90, Use: 1}} {
+			n, e := store.Find(s, h)
+			wantErrno(t, what+": find", e, want)
+			wantZero(t, what+": find", n)
+			freed, e := store.Free(s, h)
+			wantErrno(t, what+": free", e, want)
+			wantZero(t, what+": free", freed)
+		}
+		if !store.Same(s, s) || store.Same(s, of(node())) {
+			t.Errorf("%s: Same doesn't take it", what)
+		}
+	}
 }
 
 func TestHolds(t *testing.T) {
-	s := of(used(3), left(2), empty(), api.Node{Used: true, Uses: -1}, api.Node{Used: true, Uses: math.MaxInt})
+	s := of(used(3), left(2), empty())
 	cases := []struct {
 		place, use int
 		want       api.Errno
@@ -173,9 +212,7 @@ func TestHolds(t *testing.T) {
 		{1, 3, api.ErrWho},
 		{2, 0, api.ErrWho},
 		{2, 1, api.ErrWho},
-		{3, -1, api.ErrWho},
-		{4, math.MaxInt, api.OK},
-		{5, 1, api.ErrWho},
+		{3, 1, api.ErrWho},
 		{-1, 1, api.ErrWho},
 		{math.MinInt, 1, api.ErrWho},
 		{math.MaxInt, 1, api.ErrWho},
@@ -197,11 +234,37 @@ func TestHolds(t *testing.T) {
 	wantErrno(t, "no place at all", store.Holds(api.Store{}, api.Hand{Use: 1}), api.ErrWho)
 }
 
+// TestHoldsTakesAnyStore: what else is wrong with a store says nothing of a hand.
+func TestHoldsTakesAnyStore(t *testing.T) {
+	s := many(api.MaxNodes+1, kid(-9, 99))
+	s.Nodes[0] = api.Node{Used: true, Uses: -1}
+	s.Nodes[1] = api.Node{Used: true, Uses: math.MaxInt}
+	s.Nodes[2] = with(left(4), func(n *api.Node) { n.Host = 2 })
+	for h, want := range map[api.Hand]api.Errno{
+		{Place: 0, Use: -1}:               api.ErrWho,
+		{Place: 0, Use: 1}:                api.ErrWho,
+		{Place: 1, Use: math.MaxInt}:      api.OK,
+		{Place: 1, Use: math.MaxInt - 1}:  api.ErrGone,
+		{Place: 2, Use: 4}:                api.ErrGone,
+		{Place: 3, Use: 1}:                api.OK,
+		{Place: api.MaxNodes, Use: 1}:     api.OK,
+		{Place: api.MaxNodes + 1, Use: 1}: api.ErrWho,
+	} {
+		if got := store.Holds(s, h); got != want {
+			t.Errorf("holds %+v: %d, want %d", h, got, want)
+		}
+	}
+}
+
 func TestFind(t *testing.T) {
-	want := api.Node{Used: true, Uses: 2, Tag: 8, Mark: -4, Parent: 1, Kids: []int{2, 0}, Host: 1, Closed: true}
-	got, e := store.Find(of(empty(), want), api.Hand{Place: 1, Use: 2})
-	wantErrno(t, "find", e, api.OK)
-	wantStore(t, "find", of(got), of(want))
+	child := api.Node{Used: true, Uses: 2, Tag: 8, Mark: -4, Parent: 3, Kids: []int{2, 0}, Host: -1}
+	closed := api.Node{Used: true, Uses: 3, Tag: 1, Mark: api.MaxValue, Parent: -1, Kids: []int{1}, Host: 4, Closed: true}
+	s := of(kid(1), child, kid(1), closed, node())
+	for place, n := range s.Nodes {
+		got, e := store.Find(s, api.Hand{Place: place, Use: n.Uses})
+		wantErrno(t, "find", e, api.OK)
+		wantStore(t, "find", of(got), of(n))
+	}
 }
 
 func TestFree(t *testing.T) {
@@ -216,11 +279,6 @@ func TestFree(t *testing.T) {
 	freed, e = store.Free(of(used(api.MaxUses)), api.Hand{Place: 0, Use: api.MaxUses})
 	wantErrno(t, "free of the last use", e, api.OK)
 	wantStore(t, "free of the last use", freed, of(left(api.MaxUses)))
-
-	closed := with(node(), func(n *api.Node) { n.Closed = true })
-	freed, e = store.Free(of(closed), api.Hand{Place: 0, Use: 1})
-	wantErrno(t, "free in a wrong store", e, api.OK)
-	wantStore(t, "free in a wrong store", freed, of(left(1)))
 }
 
 func TestFreeWrong(t *testing.T) {
@@ -229,11 +287,6 @@ func TestFreeWrong(t *testing.T) {
 		freed, e := store.Free(s, api.Hand{Place: place, Use: 1})
 		wantErrno(t, what, e, api.ErrTree)
 		wantZero(t, what, freed)
-	}
-	odd := of(kid(-7), root(99))
-	for place := range odd.Nodes {
-		_, e := store.Free(odd, api.Hand{Place: place, Use: 1})
-		wantErrno(t, "it stands under what is no place", e, api.ErrTree)
 	}
 }
 
