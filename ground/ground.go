@@ -76,7 +76,30 @@ func IsPlace(s api.Store, place int) bool {
 
 // IsHost tells whether the node at a place is the Host of some node.
 func IsHost(s api.Store, place int) bool {
-	return slices.ContainsFunc(s.Nodes, func(n api.Node) bool {
+	return RootOf(s, place) != None
+}
+
+// RootOf is the place of the node whose Host is at this place; None, if there is none.
+func RootOf(s api.Store, place int) int {
+	// None is the Host of all that are no roots.
+	if place == None {
+		return None
+	}
+	return slices.IndexFunc(s.Nodes, func(n api.Node) bool {
 		return n.Host == place
 	})
+}
+
+// Walk answers a place, and then, one by one of those that below says of it, that and all below it likewise. Below must lead round in no ring: there is no end to that.
+func Walk(place int, below func(place int) []int) []int {
+	var walked []int
+	var walk func(at int)
+	walk = func(at int) {
+		walked = append(walked, at)
+		for _, next := range below(at) {
+			walk(next)
+		}
+	}
+	walk(place)
+	return walked
 }

@@ -92,9 +92,29 @@ func TestIsPlace(t *testing.T) {
 }
 
 func TestIsHost(t *testing.T) {
-	for place := range 6 {
+	for place := -1; place < 6; place++ {
 		if got := ground.IsHost(line(), place); got != (place == 1) {
 			t.Errorf("%d: %t", place, got)
+		}
+	}
+}
+
+func TestRootOf(t *testing.T) {
+	for place, want := range map[int]int{-2: -1, -1: -1, 0: -1, 1: 2, 2: -1, 3: -1, 4: -1, 5: -1} {
+		if got := ground.RootOf(line(), place); got != want {
+			t.Errorf("%d: %d, want %d", place, got, want)
+		}
+	}
+	if got := ground.RootOf(api.Store{}, 0); got != -1 {
+		t.Errorf("of no places: %d", got)
+	}
+}
+
+func TestWalk(t *testing.T) {
+	below := map[int][]int{3: {5, 4}, 5: {0}, 4: {2, 1, 7}, 1: {6}}
+	for place, want := range map[int][]int{3: {3, 5, 0, 4, 2, 1, 6, 7}, 4: {4, 2, 1, 6, 7}, 7: {7}, -1: {-1}} {
+		if got := ground.Walk(place, func(at int) []int { return below[at] }); !reflect.DeepEqual(got, want) {
+			t.Errorf("%d: %v, want %v", place, got, want)
 		}
 	}
 }
