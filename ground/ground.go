@@ -1,4 +1,4 @@
-// Package ground: what the layers share of nodes and places. It takes any store, a wrong one too.
+// Package ground: what the layers share of nodes, places and numbers. It takes any store, a wrong one too.
 package ground
 
 import (
@@ -7,7 +7,7 @@ import (
 	"glasshouse/api"
 )
 
-// None is the Parent of what is nobody's child, and the Host of what is no root.
+// None is the Parent of what is nobody's child, or in no frame, and the Host of what is no root.
 const None = -1
 
 // Within tells whether x is from low to high.
