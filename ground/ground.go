@@ -1,4 +1,4 @@
-// Package ground: what the layers share of nodes, places and numbers. It takes any store, a wrong one too.
+// Package ground: what the layers share of nodes, places, graphs and numbers. It takes any store and any graph, wrong ones too.
 package ground
 
 import (
@@ -26,10 +26,24 @@ func Copy(s api.Store) api.Store {
 
 // CopyNode answers a node whose Kids are new memory.
 func CopyNode(n api.Node) api.Node {
-	kids := make([]int, len(n.Kids))
-	copy(kids, n.Kids)
-	n.Kids = kids
+	n.Kids = copyKids(n.Kids)
 	return n
+}
+
+// CopyGraph answers a graph of new memory throughout, with each cell at its place, whether anything leads there or not.
+func CopyGraph(g api.Graph) api.Graph {
+	cells := make([]api.Cell, len(g.Cells))
+	for k, c := range g.Cells {
+		cells[k] = api.Cell{N: c.N, Kids: copyKids(c.Kids)}
+	}
+	return api.Graph{Cells: cells}
+}
+
+// copyKids answers a list of new memory.
+func copyKids(kids []int) []int {
+	copies := make([]int, len(kids))
+	copy(copies, kids)
+	return copies
 }
 
 // RightUnder is the place of what a node stands right under.

@@ -154,3 +154,23 @@ func TestCopy(t *testing.T) {
 		t.Error("a copy shares memory")
 	}
 }
+
+// TestCopyGraph: a copy is like what it was made of, place by place, whatever that is, and shares nothing with it, nor within itself.
+func TestCopyGraph(t *testing.T) {
+	kids := []int{7, -8, 9}
+	c := api.Cell{N: 5, Kids: kids[:2]}
+	g := api.Graph{Cells: []api.Cell{c, c, {N: 6}}[:2]}
+	copied := ground.CopyGraph(g)
+	if !reflect.DeepEqual(copied, g) {
+		t.Errorf("a copy: %+v, want %+v", copied, g)
+	}
+	copied.Cells[0].Kids[0] = 50
+	_ = append(copied.Cells[0].Kids, 51)
+	_ = append(copied.Cells, api.Cell{})
+	if copied.Cells[1].Kids[0] != 7 || !reflect.DeepEqual(kids, []int{7, -8, 9}) || g.Cells[:3][2].N != 6 {
+		t.Error("a copy shares memory")
+	}
+	if none := ground.CopyGraph(api.Graph{}); len(none.Cells) != 0 {
+		t.Errorf("a copy of nothing: %+v", none)
+	}
+}
