@@ -91,7 +91,7 @@ func (s some) each(ports int, visit func(l []api.Port)) {
 	fill(0)
 }
 
-// TestAllSmall: of all ports of up to two, of three that differ less, and of four that differ by their mates alone, Check says what the chapter says.
+// TestAllSmall: Check says what the chapter says of all lists of up to two ports, of a few owners, turns and graphs, right and wrong ones, and any mates; of three, of fewer of these; and of four that differ by their mates alone.
 func TestAllSmall(t *testing.T) {
 	tally := map[api.Errno]int{}
 	hold := func(l []api.Port) {
