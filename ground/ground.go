@@ -1,4 +1,4 @@
-// Package ground: what the layers share of nodes, places, graphs and numbers. It takes any store and any graph, wrong ones too.
+// Package ground: what the layers share of nodes, places, graphs, ports, realms and numbers. It takes any of them, wrong ones too.
 package ground
 
 import (
@@ -17,32 +17,48 @@ func Within(x, low, high int) bool {
 
 // Copy answers a store of new memory throughout.
 func Copy(s api.Store) api.Store {
-	nodes := make([]api.Node, len(s.Nodes))
-	for k, n := range s.Nodes {
-		nodes[k] = CopyNode(n)
-	}
-	return api.Store{Nodes: nodes}
+	return api.Store{Nodes: CopyEach(s.Nodes, CopyNode)}
 }
 
 // CopyNode answers a node whose Kids are new memory.
 func CopyNode(n api.Node) api.Node {
-	n.Kids = copyKids(n.Kids)
+	n.Kids = CopyList(n.Kids)
 	return n
 }
 
 // CopyGraph answers a graph of new memory throughout, with each cell at its place, whether anything leads there or not.
 func CopyGraph(g api.Graph) api.Graph {
-	cells := make([]api.Cell, len(g.Cells))
-	for k, c := range g.Cells {
-		cells[k] = api.Cell{N: c.N, Kids: copyKids(c.Kids)}
-	}
-	return api.Graph{Cells: cells}
+	return api.Graph{Cells: CopyEach(g.Cells, func(c api.Cell) api.Cell {
+		return api.Cell{N: c.N, Kids: CopyList(c.Kids)}
+	})}
 }
 
-// copyKids answers a list of new memory.
-func copyKids(kids []int) []int {
-	copies := make([]int, len(kids))
-	copy(copies, kids)
+// CopyPorts answers ports of new memory throughout. What came to them is copied whole, not by chapter 7: it stays as it came.
+func CopyPorts(l []api.Port) []api.Port {
+	return CopyEach(l, func(p api.Port) api.Port {
+		p.Came = CopyEach(p.Came, CopyGraph)
+		return p
+	})
+}
+
+// CopyRealm answers a realm of new memory throughout.
+func CopyRealm(r api.Realm) api.Realm {
+	return api.Realm{S: Copy(r.S), Hands: CopyList(r.Hands), In: CopyGraph(r.In), Told: CopyList(r.Told)}
+}
+
+// CopyEach answers a list of new memory, of a copy of each thing.
+func CopyEach[T any](list []T, copyOne func(one T) T) []T {
+	copies := make([]T, len(list))
+	for k, one := range list {
+		copies[k] = copyOne(one)
+	}
+	return copies
+}
+
+// CopyList answers a list of new memory, of things that have no lists of their own.
+func CopyList[T any](list []T) []T {
+	copies := make([]T, len(list))
+	copy(copies, list)
 	return copies
 }
 

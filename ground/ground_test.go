@@ -174,3 +174,64 @@ func TestCopyGraph(t *testing.T) {
 		t.Errorf("a copy of nothing: %+v", none)
 	}
 }
+
+// TestCopyPorts: copies are like what they were made of, whatever that is, and share nothing with it, nor within themselves.
+func TestCopyPorts(t *testing.T) {
+	came := []api.Graph{{Cells: []api.Cell{{N: 5, Kids: []int{7, -8}}}}, {}, {Cells: []api.Cell{{N: 6, Kids: []int{}}}}}
+	p := api.Port{Owner: 3, Turn: -4, Mate: 9, Came: came[:1], Shut: true}
+	l := []api.Port{p, p, {Owner: 8}}[:2]
+	copied := ground.CopyPorts(l)
+	if !reflect.DeepEqual(copied, l) {
+		t.Errorf("copies: %+v, want %+v", copied, l)
+	}
+	copied[0].Came[0].Cells[0].Kids[0] = 50
+	copied[0].Came[0] = api.Graph{}
+	_ = append(copied[0].Came, api.Graph{})
+	_ = append(copied, api.Port{})
+	if !reflect.DeepEqual(copied[1], l[1]) || came[0].Cells[0].Kids[0] != 7 || came[2].Cells[0].N != 6 || l[:3][2].Owner != 8 {
+		t.Error("copies share memory")
+	}
+	if none := ground.CopyPorts(nil); len(none) != 0 {
+		t.Errorf("copies of nothing: %+v", none)
+	}
+}
+
+// TestCopyRealm: a copy is like what it was made of, whatever that is, and shares nothing with it.
+func TestCopyRealm(t *testing.T) {
+	hands, told := []api.Hand{{Place: 1, Use: 2}, {Place: 3, Use: 4}}, []int{5, 6}
+	r := api.Realm{S: line(), Hands: hands[:1], In: api.Graph{Cells: []api.Cell{{N: 5, Kids: []int{7}}}}, Told: told[:1]}
+	for k := range r.S.Nodes {
+		r.S.Nodes[k].Kids = append([]int{}, r.S.Nodes[k].Kids...)
+	}
+	copied := ground.CopyRealm(r)
+	if !reflect.DeepEqual(copied, r) {
+		t.Errorf("a copy: %+v, want %+v", copied, r)
+	}
+	copied.S.Nodes[0].Kids[0] = 50
+	copied.S.Nodes[1].Mark = 51
+	copied.In.Cells[0].Kids[0] = 52
+	copied.In.Cells[0].N = 53
+	copied.Hands[0].Use, copied.Told[0] = 54, 55
+	_, _ = append(copied.Hands, api.Hand{}), append(copied.Told, 56)
+	if r.S.Nodes[0].Kids[0] != 1 || r.S.Nodes[1].Mark != 0 || r.In.Cells[0].Kids[0] != 7 || r.In.Cells[0].N != 5 || hands[0].Use != 2 || hands[1].Use != 4 || told[0] != 5 || told[1] != 6 {
+		t.Error("a copy shares memory")
+	}
+}
+
+// TestCopyEach: a list of new memory, in order, of what is said of each; of nothing, nothing.
+func TestCopyEach(t *testing.T) {
+	list := []int{1, 2, 3}
+	doubled := ground.CopyEach(list[:2], func(n int) int { return 2 * n })
+	if !reflect.DeepEqual(doubled, []int{2, 4}) {
+		t.Errorf("each: %v", doubled)
+	}
+	copied := ground.CopyList(list[:2])
+	if !reflect.DeepEqual(copied, []int{1, 2}) {
+		t.Errorf("a list: %v", copied)
+	}
+	copied[0], doubled[0] = 9, 9
+	_, _ = append(copied, 9), append(doubled, 9)
+	if !reflect.DeepEqual(list, []int{1, 2, 3}) || len(ground.CopyList[int](nil)) != 0 {
+		t.Errorf("shared memory: %v", list)
+	}
+}
